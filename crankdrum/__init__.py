@@ -1,0 +1,1 @@
+"""Crankdrum: a reckoning machine of brass, and handbooks that hold for all settings."""
