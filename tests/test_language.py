@@ -24,6 +24,14 @@ INTERFACE = {
         "settled": ["machine", "wheels", "levers", "order", "way"],
     },
     "deeds": {"done": ["machine", "stand", "deed"]},
+    "books": {"need_book": ["machine", "book"]},
+    "working": {"worked": ["machine", "book", "values"]},
+    "looking": {"looked": ["machine", "book"]},
+    "manuals": {
+        "product": ["machine", "one", "other"],
+        "quotient": ["machine", "one", "other"],
+        "root": ["machine", "one"],
+    },
 }
 
 ERRORS = {"DrumError", "BadMachine", "BadDeed", "BadBook", "BadValue", "Stuck", "TooSmall"}
@@ -45,6 +53,16 @@ def tree(file):
 
 def nodes(file, kinds):
     return [node for node in ast.walk(tree(file)) if isinstance(node, kinds)]
+
+
+def defined(file):
+    """The names of a file's functions, classes and values, not those that it imports."""
+    names = {part.name for part in tree(file).body if hasattr(part, "name")}
+    return names | {part.targets[0].id for part in tree(file).body if isinstance(part, ast.Assign)}
+
+
+def imported(file):
+    return [alias.name for node in nodes(file, ast.ImportFrom) for alias in node.names]
 
 
 class Interface(unittest.TestCase):
@@ -91,8 +109,8 @@ class Rules(unittest.TestCase):
             for node in nodes(file, ast.ImportFrom):
                 self.assertEqual(node.level, 0, file.name)
                 self.assertRegex(node.module, r"\Acrankdrum\.[a-z]+\Z")
-                defined = {part.name for part in tree(PACKAGE / f"{node.module[10:]}.py").body if hasattr(part, "name")}
-                self.assertLessEqual({alias.name for alias in node.names}, defined)
+                self.assertLessEqual({alias.name for alias in node.names}, defined(PACKAGE / f"{node.module[10:]}.py"))
+                self.assertEqual([alias.asname for alias in node.names if alias.asname], [], file.name)
 
     def test_module_level_has_only_imports_functions_classes_and_plain_names(self):
         for file in FILES:
@@ -100,6 +118,47 @@ class Rules(unittest.TestCase):
             self.assertIsInstance(body[0], ast.Expr, f"{file.name} has a docstring")
             for node in body[1:]:
                 self.assertIsInstance(node, (ast.ImportFrom, ast.FunctionDef, ast.ClassDef, ast.Assign), file.name)
+
+    def test_no_two_files_import_from_each_other(self):
+        done, left = set(), {file.stem: {node.module[10:] for node in nodes(file, ast.ImportFrom)} for file in FILES}
+        while left:
+            free = [stem for stem, needed in left.items() if needed <= done]
+            self.assertNotEqual(free, [], left)
+            done |= set(free)
+            left = {stem: needed for stem, needed in left.items() if stem not in free}
+
+    def test_a_name_is_bound_once_at_module_level_and_imports_are_not_hidden(self):
+        for file in FILES:
+            bound = imported(file) + [part.name for part in tree(file).body if hasattr(part, "name")]
+            bound += [part.targets[0].id for part in tree(file).body if isinstance(part, ast.Assign)]
+            self.assertEqual(sorted(bound), sorted(set(bound)), file.name)
+            local = {node.arg for node in nodes(file, ast.arg)}
+            local |= {node.id for node in nodes(file, ast.Name) if isinstance(node.ctx, ast.Store)}
+            local |= {node.name for node in nodes(file, (ast.MatchAs, ast.MatchStar)) if node.name}
+            classes = {part.name for part in tree(file).body if isinstance(part, ast.ClassDef)}
+            self.assertEqual(local & (set(imported(file)) | classes), set(), file.name)
+
+    def test_functions_use_all_that_is_imported(self):
+        for file in FILES:
+            used = {node.id for node in nodes(file, ast.Name)}
+            self.assertLessEqual(set(imported(file)), used, file.name)
+
+    def test_patterns_are_plain(self):
+        for file in FILES:
+            for node in nodes(file, ast.match_case):
+                wild = [part for part in ast.walk(node.pattern) if isinstance(part, ast.MatchAs) and part.name is None]
+                self.assertEqual(wild, [], (file.name, node.pattern.lineno))
+            self.assertEqual(nodes(file, (ast.MatchClass, ast.MatchMapping)), [], file.name)
+
+    def test_no_name_is_a_method_and_an_attribute(self):
+        methods, stored, read = set(), set(), set()
+        for file in FILES:
+            for part in nodes(file, ast.ClassDef):
+                methods |= {row.name for row in part.body if isinstance(row, ast.FunctionDef)}
+            for node in nodes(file, ast.Attribute):
+                (stored if isinstance(node.ctx, ast.Store) else read).add(node.attr)
+        self.assertEqual(methods & stored, set())
+        self.assertLessEqual(read - methods - stored, {"append", "get", "items"})
 
     def test_powers_have_literal_exponents_and_nothing_is_a_fraction(self):
         for file in FILES:
